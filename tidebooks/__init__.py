@@ -1,0 +1,1 @@
+"""Tidehall: books. The way in is tidebooks.book.answers."""
