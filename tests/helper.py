@@ -81,6 +81,18 @@ def text(kind, i):
     return [3, kind, i]
 
 
+def find(name):
+    return [4, len(name)] + row(name)
+
+
+def save():
+    return [5]
+
+
+def load(saved):
+    return [6, len(saved)] + row(saved)
+
+
 def ask(*calls):
     """What is answered to each of these calls on one new book."""
     numbers = answers([number for call in calls for number in call])
@@ -102,9 +114,23 @@ def entry(kind, payload):
     return list(head + struct.pack("<I", zlib.crc32(head)))
 
 
+def joined(entries):
+    return [byte for told in entries for byte in told]
+
+
+def saved(*entries):
+    """Saved bytes of these entries, each as its kind and payload."""
+    return row("TDB1") + joined([entry(kind, payload) for kind, payload in entries])
+
+
+def save_of(calls):
+    """The bytes that a book saves behind these calls."""
+    return last(*calls, save())[2:]
+
+
 def standing(calls):
     """All that a book tells of itself behind these calls."""
-    asked = [size(), text(1, 0)]
+    asked = [size(), save(), text(1, 0)]
     asked += [text(2, i) for i in range(17)] + [text(3, i) for i in range(33)]
     return ask(*calls, *asked)[len(calls):]
 

@@ -51,9 +51,40 @@ class Language(unittest.TestCase):
                 self.assertNotIn(word, WORDS, path)
 
     def test_imports(self):
+        tops = {path.stem: {node.name for node in tree.body if isinstance(node, (ast.FunctionDef, ast.ClassDef))}
+                | {node.targets[0].id for node in tree.body if isinstance(node, ast.Assign)} for path, tree in trees()}
+        drawn = {path.stem: set() for path in FILES}
         for path, node in nodes(ast.ImportFrom):
             self.assertRegex(node.module, r"^tidebooks\.\w+$")
             self.assertEqual(node.level, 0)
+            source = node.module.split(".")[1]
+            drawn[path.stem].add(source)
+            for name in node.names:
+                self.assertIn(name.name, tops[source], path)
+        # Files that draw from none that's left are taken away until none is left: so there's no circle.
+        while drawn:
+            ends = [stem for stem in drawn if not drawn[stem] & set(drawn)]
+            self.assertTrue(ends, drawn)
+            for stem in ends:
+                drawn.pop(stem)
+
+    def test_is_and_keywords(self):
+        for path, node in nodes(ast.Compare):
+            if isinstance(node.ops[0], (ast.Is, ast.IsNot)):
+                self.assertIn(getattr(node.comparators[0], "value", 0), (None, True, False), (path, node.lineno))
+        for path, node in nodes(ast.Call):
+            self.assertEqual(node.keywords, [], (path, node.lineno))
+
+    def test_views_are_walked_on_the_spot(self):
+        takers = ("list", "tuple", "dict", "sorted", "sum", "any", "all", "enumerate", "zip")
+        walked = [(path, node.iter) for path, node in nodes((ast.For, ast.comprehension))]
+        walked += [(path, part) for path, node in nodes(ast.Call) for part in node.args[:1]
+                   if isinstance(node.func, ast.Name) and node.func.id in takers]
+        spots = {(path, node.lineno, node.col_offset) for path, node in walked}
+        for path, node in nodes(ast.Call):
+            called = node.func.attr if isinstance(node.func, ast.Attribute) else getattr(node.func, "id", "")
+            if called in ("items", "keys", "values", "zip", "enumerate", "reversed", "range"):
+                self.assertIn((path, node.lineno, node.col_offset), spots)
 
     def test_statements_and_expressions(self):
         for path, node in nodes(ast.stmt):

@@ -1,15 +1,11 @@
 import unittest
 
-from tests.helper import FLAT, PORT, SKY, ask, entry, last, lesser, play, port, row, standing, stream, tell
+from tests.helper import FLAT, PORT, SKY, ask, entry, joined, last, lesser, play, port, row, standing, stream, tell
 
 TOLD = [(1, row("")), (1, row(SKY)), (2, port("Por", FLAT)), (3, row(lesser())), (2, port("P", PORT)),
         (3, row(stream())), (4, row("Les"))]
 ENTRIES = [entry(kind, payload) for kind, payload in TOLD]
 TELLS = [tell(kind, payload) for kind, payload in TOLD]
-
-
-def joined(entries):
-    return [byte for told in entries for byte in told]
 
 
 class Play(unittest.TestCase):

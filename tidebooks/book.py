@@ -42,7 +42,19 @@ def text(book, reader):
     return book.text(kind, reader.read_number())
 
 
-CALLS = (tell, play, size, text)
+def find(book, reader):
+    return book.where(tuple(reader.read_row()))
+
+
+def save(book, reader):
+    return book.save()
+
+
+def load(book, reader):
+    return book.load(reader.read_row())
+
+
+CALLS = (tell, play, size, text, find, save, load)
 
 
 def answers(calls):

@@ -14,12 +14,12 @@ ALL_ONES = 0xFFFFFFFF
 
 
 class Entry:
-    """An entry read in a journal: its kind, its payload, and the place behind it."""
+    """An entry: its kind, its payload, and all its bytes."""
 
-    def __init__(self, kind, payload, end):
+    def __init__(self, kind, payload, row):
         self.kind = kind
         self.payload = payload
-        self.end = end
+        self.row = row
 
 
 def check_of(row):
@@ -46,14 +46,9 @@ def number_from(row):
     return number
 
 
-def entry_length(length):
-    """How many bytes an entry has whose payload has this length."""
-    return HEAD_LENGTH + length + CHECK_LENGTH
-
-
-def entry_bytes(kind, payload):
+def entry_of(kind, payload):
     row = [kind] + low_first(len(payload)) + payload
-    return row + low_first(check_of(row))
+    return Entry(kind, payload, row + low_first(check_of(row)))
 
 
 def is_kind(kind):
@@ -66,10 +61,10 @@ def entry_at(row, place):
     if behind_head > len(row) or not is_kind(row[place]):
         return None
     length = number_from(row[place + 1:behind_head])
-    end = place + entry_length(length)
+    behind_payload = behind_head + length
+    end = behind_payload + CHECK_LENGTH
     if length > MOST_PAYLOAD or end > len(row):
         return None
-    behind_payload = end - CHECK_LENGTH
     if number_from(row[behind_payload:end]) != check_of(row[place:behind_payload]):
         return None
-    return Entry(row[place], row[behind_head:behind_payload], end)
+    return Entry(row[place], row[behind_head:behind_payload], row[place:end])

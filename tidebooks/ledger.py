@@ -1,6 +1,6 @@
 """The book: what stands in it, which entries it takes, and what it tells."""
 
-from tidebooks.entry import MOST_PAYLOAD, entry_at, entry_bytes, entry_length, is_kind
+from tidebooks.entry import MOST_PAYLOAD, entry_at, entry_of, is_kind
 from tidebooks.port import read_port
 from tidebooks.scan import Fault, is_name
 from tidebooks.sky import read_sky
@@ -15,6 +15,7 @@ NO_KIND = -1
 TOO_LONG = -2
 NOT_THERE = -3
 NONE_SUCH = -4
+NO_BOOK = -5
 NOT_IN_FORM = -6
 FULL = -8
 HINDERED = -9
@@ -23,16 +24,26 @@ MOST_TEXT = 4096
 MOST_PORTS = 16
 MOST_TABLES = 32
 
-# "TDB1", which saved bytes begin with.
-MARK_LENGTH = 4
+# What saved bytes begin with.
+MARK = "TDB1"
+
+
+class Sky:
+    """A sky's text, the names of its waves and sums, in a dict, and what is saved of it."""
+
+    def __init__(self, row, known, entry_row):
+        self.row = row
+        self.known = known
+        self.entry_row = entry_row
 
 
 class Port:
-    """A port's text, and the names of its waves, in a dict."""
+    """A port's text, the names of its waves, in a dict, and what is saved of it."""
 
-    def __init__(self, row, names):
+    def __init__(self, row, names, entry_row):
         self.row = row
         self.names = names
+        self.entry_row = entry_row
 
     def stands_over(self, known):
         """Whether a text that's right over one sky is so over one with these waves and sums."""
@@ -40,19 +51,19 @@ class Port:
 
 
 class Table:
-    """A table's text, and the name of the port that it is of."""
+    """A table's text, the name of the port that it is of, and what is saved of it."""
 
-    def __init__(self, row, of):
+    def __init__(self, row, of, entry_row):
         self.row = row
         self.of = of
+        self.entry_row = entry_row
 
 
 class Book:
     """Ports and tables by their names: a dict keeps the order in which these came in."""
 
     def __init__(self):
-        self.sky = []
-        self.known = {}
+        self.sky = Sky([], {}, [])
         self.ports = {}
         self.tables = {}
 
@@ -61,67 +72,92 @@ class Book:
             return [NO_KIND]
         if len(payload) > MOST_PAYLOAD:
             return [TOO_LONG]
-        taken = self.take(kind, payload)
+        entry = entry_of(kind, payload)
+        taken = self.take(entry)
         if taken != TAKEN:
             return [taken]
-        return [TAKEN] + counted(entry_bytes(kind, payload))
+        return [TAKEN] + counted(entry.row)
 
     def play(self, journal):
         taken = 0
         place = 0
         entry = entry_at(journal, place)
-        while entry is not None and self.take(entry.kind, entry.payload) == TAKEN:
+        while entry is not None and self.take(entry) == TAKEN:
             taken += 1
-            place = entry.end
+            place += len(entry.row)
             entry = entry_at(journal, place)
         return [TAKEN, taken, place]
 
     def size(self):
-        return [TAKEN, len(self.ports), len(self.tables), self.saved_length()]
+        return [TAKEN, len(self.ports), len(self.tables), len(self.saved())]
 
     def text(self, kind, i):
         if kind == SKY and i == 0:
-            return [TAKEN] + counted([]) + counted(self.sky)
+            return [TAKEN] + counted([]) + counted(self.sky.row)
         if kind == PORT and i < len(self.ports):
             return named_text(self.ports, i)
         if kind == TABLE and i < len(self.tables):
             return named_text(self.tables, i)
         return [NONE_SUCH]
 
-    def saved_length(self):
-        length = MARK_LENGTH
-        if self.sky:
-            length += entry_length(len(self.sky))
-        for name in self.ports:
-            length += entry_length(1 + len(name) + len(self.ports[name].row))
-        for name in self.tables:
-            length += entry_length(len(self.tables[name].row))
-        return length
+    def where(self, name):
+        """Tells on which shelf a name stands, and where there."""
+        if name in self.ports:
+            return [PORT, list(self.ports).index(name)]
+        if name in self.tables:
+            return [TABLE, list(self.tables).index(name)]
+        return [NONE_SUCH]
 
-    def take(self, kind, payload):
+    def save(self):
+        return [TAKEN] + counted(self.saved())
+
+    def load(self, row):
+        loaded = Book()
+        loaded.play(row[len(MARK):])
+        # A book saves at most what was played of its journal: if it saves the whole row, the journal was good to
+        # its end.
+        if loaded.saved() != row:
+            return [NO_BOOK]
+        self.sky = loaded.sky
+        self.ports = loaded.ports
+        self.tables = loaded.tables
+        return [TAKEN]
+
+    def saved(self):
+        row = [ord(sign) for sign in MARK]
+        row.extend(self.sky.entry_row)
+        for port in self.ports.values():
+            row.extend(port.entry_row)
+        for table in self.tables.values():
+            row.extend(table.entry_row)
+        return row
+
+    def take(self, entry):
         """Takes an entry of a kind from 1 to 4: gives TAKEN, or why not, with nothing changed."""
-        if kind == SKY:
-            return self.take_sky(payload)
-        if kind == PORT:
-            return self.take_port(payload)
-        if kind == TABLE:
-            return self.take_table(payload)
-        return self.take_gone(payload)
+        if entry.kind == SKY:
+            return self.take_sky(entry)
+        if entry.kind == PORT:
+            return self.take_port(entry)
+        if entry.kind == TABLE:
+            return self.take_table(entry)
+        return self.take_gone(entry)
 
-    def take_sky(self, row):
+    def take_sky(self, entry):
+        row = entry.payload
         if len(row) > MOST_TEXT:
             return NOT_IN_FORM
         try:
             known = read_sky(row)
         except Fault:
             return NOT_IN_FORM
-        if not all([self.ports[name].stands_over(known) for name in self.ports]):
+        if not all([port.stands_over(known) for port in self.ports.values()]):
             return HINDERED
-        self.sky = row
-        self.known = known
+        # A sky that was told as the empty text stands like one that was never told: nothing of it is saved.
+        self.sky = Sky(row, known, entry.row if row else [])
         return TAKEN
 
-    def take_port(self, payload):
+    def take_port(self, entry):
+        payload = entry.payload
         if not payload or payload[0] >= len(payload):
             return NOT_IN_FORM
         name = tuple(payload[1:1 + payload[0]])
@@ -129,17 +165,18 @@ class Book:
         if not is_name(name) or len(row) > MOST_TEXT:
             return NOT_IN_FORM
         try:
-            names = read_port(row, self.known)
+            names = read_port(row, self.sky.known)
         except Fault:
             return NOT_IN_FORM
         if name in self.tables:
             return HINDERED
         if name not in self.ports and len(self.ports) == MOST_PORTS:
             return FULL
-        self.ports[name] = Port(row, names)
+        self.ports[name] = Port(row, names, entry.row)
         return TAKEN
 
-    def take_table(self, row):
+    def take_table(self, entry):
+        row = entry.payload
         if len(row) > MOST_TEXT:
             return NOT_IN_FORM
         try:
@@ -152,11 +189,11 @@ class Book:
             return HINDERED
         if heading.name not in self.tables and len(self.tables) == MOST_TABLES:
             return FULL
-        self.tables[heading.name] = Table(row, heading.of)
+        self.tables[heading.name] = Table(row, heading.of, entry.row)
         return TAKEN
 
-    def take_gone(self, payload):
-        name = tuple(payload)
+    def take_gone(self, entry):
+        name = tuple(entry.payload)
         if not is_name(name):
             return NOT_IN_FORM
         if name in self.tables:
@@ -164,7 +201,7 @@ class Book:
             return TAKEN
         if name not in self.ports:
             return NOT_THERE
-        if any([self.tables[other].of == name for other in self.tables]):
+        if any([table.of == name for table in self.tables.values()]):
             return HINDERED
         self.ports.pop(name)
         return TAKEN
